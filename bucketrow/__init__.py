@@ -1,0 +1,1 @@
+"""Buckets passed along a row of people, reckoned in whole numbers."""
