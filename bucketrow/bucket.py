@@ -2,8 +2,6 @@
 
 
 class Person:
-    """Somebody who spills so much at once, passes on a by b of the rest, and takes so many moments."""
-
     def __init__(self, spills, a, b, moments):
         self.spills = spills
         self.a = a
@@ -11,9 +9,8 @@ class Person:
         self.moments = moments
 
 
+# Its terms are brought to the lowest only where it is told: they stay small along 6 people.
 class Amount:
-    """So many measures: what is divided, by what (above 0), in any terms."""
-
     def __init__(self, divided, by):
         self.divided = divided
         self.by = by
@@ -43,8 +40,8 @@ def passed_on(amount, person):
     return Amount(rest * person.a, amount.by * person.b)
 
 
+# The amount is above 0: of nothing, it would not be one answer alone.
 def taken_to_pass_on(amount, person):
-    """How much somebody must be handed to pass on so much, which is above 0."""
     by = amount.by * person.a
     return Amount(amount.divided * person.b + person.spills * by, by)
 
@@ -72,8 +69,8 @@ def orders_one_longer(orders, count):
     return longer
 
 
+# The first order stands first, since of as good ones it counts; so do pairs below.
 def all_orders(count):
-    """Every order of all of so many people, from the first to the last."""
     orders = [[]]
     for place in range(count):
         orders = orders_one_longer(orders, count)
@@ -81,7 +78,6 @@ def all_orders(count):
 
 
 def all_pairs(count):
-    """Every two of so many people, the lower number first, from the first pair to the last."""
     pairs = []
     for low in range(count):
         for high in range(low + 1, count):
@@ -97,7 +93,6 @@ def order_with_exchanged(pair, count):
 
 
 def place_of_best(people, orders, measures):
-    """Where among these orders the one stands by which the most comes."""
     best = 0
     most = what_comes(people, orders[0], measures)
     for place, order in enumerate(orders):
@@ -110,7 +105,6 @@ def place_of_best(people, orders, measures):
 
 
 def moment_of_coming(people, k):
-    """When the k-th bucket comes, of a row of at least one."""
     times = [person.moments for person in people]
     # Each bucket comes just the slowest one's time behind the one before: whoever is quicker
     # waits for the slowest, or for what the slowest passes on.

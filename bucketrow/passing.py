@@ -16,7 +16,6 @@ COMES = 2
 NEEDS = 3
 BEST = 4
 EXCHANGE = 5
-SOON = 6
 
 # How many whole numbers stand behind the number of each call, ahead of its order.
 WHOLE_NUMBERS = (0, 4, 1, 1, 1, 1, 1)
@@ -44,7 +43,6 @@ def is_as_told(spills, a, b, moments):
 
 
 def is_order(order, count):
-    """Whether these are some or all of so many people, or none, each once."""
     told = {}
     for number in order:
         if number >= count or number in told:
@@ -54,9 +52,8 @@ def is_order(order, count):
 
 
 class Line:
-    """The row that one list of calls is about; people is None as long as no row is begun."""
-
     def __init__(self):
+        # None as long as no row is begun, since a row of nobody is a row.
         self.people = None
 
     def begin(self):
@@ -127,6 +124,7 @@ def answer_to(line, call):
         return line.best(call[1])
     if number == EXCHANGE:
         return line.exchange(call[1])
+    # soon is the one that is left.
     return line.soon(call[1])
 
 
@@ -139,7 +137,6 @@ def end_of_call(calls, start):
 
 
 def answers(calls):
-    """For each call how many numbers are answered, then these numbers."""
     line = Line()
     given = []
     start = 0
