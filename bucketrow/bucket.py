@@ -85,8 +85,12 @@ def all_pairs(count):
     return pairs
 
 
-def order_with_exchanged(pair, count):
-    order = list(range(count))
+def order_as_they_stand(people):
+    return list(range(len(people)))
+
+
+def order_with_exchanged(people, pair):
+    order = order_as_they_stand(people)
     order[pair[0]] = pair[1]
     order[pair[1]] = pair[0]
     return order
@@ -104,8 +108,34 @@ def place_of_best(people, orders, measures):
     return best
 
 
+def best_order(people, measures):
+    orders = all_orders(len(people))
+    return orders[place_of_best(people, orders, measures)]
+
+
+def standing_in(people, order):
+    return [people[number] for number in order]
+
+
+def slowest_time(people):
+    return max([person.moments for person in people])
+
+
 def moment_of_coming(people, k):
-    times = [person.moments for person in people]
     # Each bucket comes just the slowest one's time behind the one before: whoever is quicker
     # waits for the slowest, or for what the slowest passes on.
-    return sum(times) + (k - 1) * max(times)
+    return sum([person.moments for person in people]) + (k - 1) * slowest_time(people)
+
+
+def how_many_come(people, moment):
+    if len(people) == 0:
+        return 0
+    first = moment_of_coming(people, 1)
+    if moment < first:
+        return 0
+    return 1 + (moment - first) // slowest_time(people)
+
+
+def what_has_come(people, measures, moment):
+    each = what_comes(people, order_as_they_stand(people), measures)
+    return Amount(each.divided * how_many_come(people, moment), each.by)

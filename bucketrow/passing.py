@@ -1,13 +1,17 @@
 """The calls of one list, answered one behind another, about one row of people."""
 
 from bucketrow.bucket import Person
-from bucketrow.bucket import all_orders
 from bucketrow.bucket import all_pairs
+from bucketrow.bucket import best_order
+from bucketrow.bucket import how_many_come
 from bucketrow.bucket import in_lowest_terms
 from bucketrow.bucket import moment_of_coming
+from bucketrow.bucket import order_as_they_stand
 from bucketrow.bucket import order_with_exchanged
 from bucketrow.bucket import place_of_best
+from bucketrow.bucket import standing_in
 from bucketrow.bucket import what_comes
+from bucketrow.bucket import what_has_come
 from bucketrow.bucket import what_is_needed
 
 BEGIN = 0
@@ -16,9 +20,15 @@ COMES = 2
 NEEDS = 3
 BEST = 4
 EXCHANGE = 5
+SOON = 6
+COME = 7
+WATER = 8
+SWAP = 9
+LEAVE = 10
+ORDER = 11
 
 # How many whole numbers stand behind the number of each call, ahead of its order.
-WHOLE_NUMBERS = (0, 4, 1, 1, 1, 1, 1)
+WHOLE_NUMBERS = (0, 4, 1, 1, 1, 1, 1, 1, 2, 2, 1, 1, 0)
 
 NOT_AS_TOLD = -1
 NO_SUCH_ONE = -2
@@ -29,6 +39,7 @@ NO_ROW = -9
 MOST_PEOPLE = 6
 MOST_MEASURES = 1000
 MOST_BUCKETS = 1000
+LAST_MOMENT = 100000
 MOST_SPILLED = 50
 MOST_MOMENTS = 50
 MOST_PARTS = 9
@@ -85,18 +96,16 @@ class Line:
     def best(self, measures):
         if measures > MOST_MEASURES:
             return [NOT_AS_TOLD]
-        orders = all_orders(len(self.people))
-        order = orders[place_of_best(self.people, orders, measures)]
+        order = best_order(self.people, measures)
         return in_lowest_terms(what_comes(self.people, order, measures)) + order
 
     def exchange(self, measures):
-        count = len(self.people)
         if measures > MOST_MEASURES:
             return [NOT_AS_TOLD]
-        if count < 2:
+        if len(self.people) < 2:
             return [TOO_FEW]
-        pairs = all_pairs(count)
-        orders = [order_with_exchanged(pair, count) for pair in pairs]
+        pairs = all_pairs(len(self.people))
+        orders = [order_with_exchanged(self.people, pair) for pair in pairs]
         place = place_of_best(self.people, orders, measures)
         return in_lowest_terms(what_comes(self.people, orders[place], measures)) + pairs[place]
 
@@ -106,6 +115,41 @@ class Line:
         if len(self.people) == 0:
             return [TOO_FEW]
         return [moment_of_coming(self.people, k)]
+
+    def come(self, moment):
+        if moment > LAST_MOMENT:
+            return [NOT_AS_TOLD]
+        return [how_many_come(self.people, moment)]
+
+    def water(self, measures, moment):
+        if measures > MOST_MEASURES or moment > LAST_MOMENT:
+            return [NOT_AS_TOLD]
+        return in_lowest_terms(what_has_come(self.people, measures, moment))
+
+    def swap(self, number, other):
+        if max(number, other) >= len(self.people):
+            return [NO_SUCH_ONE]
+        self.people = standing_in(self.people, order_with_exchanged(self.people, [number, other]))
+        return [0]
+
+    def leave(self, number):
+        if number >= len(self.people):
+            return [NO_SUCH_ONE]
+        self.people.pop(number)
+        return [len(self.people)]
+
+    # The call is order, but so is what comes and needs are handed.
+    def reorder(self, measures):
+        if measures > MOST_MEASURES:
+            return [NOT_AS_TOLD]
+        self.people = standing_in(self.people, best_order(self.people, measures))
+        return in_lowest_terms(what_comes(self.people, order_as_they_stand(self.people), measures))
+
+    def look(self):
+        seen = [len(self.people)]
+        for one in self.people:
+            seen.extend([one.spills, one.a, one.b, one.moments])
+        return seen
 
 
 def answer_to(line, call):
@@ -124,8 +168,20 @@ def answer_to(line, call):
         return line.best(call[1])
     if number == EXCHANGE:
         return line.exchange(call[1])
-    # soon is the one that is left.
-    return line.soon(call[1])
+    if number == SOON:
+        return line.soon(call[1])
+    if number == COME:
+        return line.come(call[1])
+    if number == WATER:
+        return line.water(call[1], call[2])
+    if number == SWAP:
+        return line.swap(call[1], call[2])
+    if number == LEAVE:
+        return line.leave(call[1])
+    if number == ORDER:
+        return line.reorder(call[1])
+    # look is the one that is left.
+    return line.look()
 
 
 def end_of_call(calls, start):

@@ -31,6 +31,30 @@ def soon(k):
     return [6, k]
 
 
+def come(moment):
+    return [7, moment]
+
+
+def water(measures, moment):
+    return [8, measures, moment]
+
+
+def swap(number, other):
+    return [9, number, other]
+
+
+def leave(number):
+    return [10, number]
+
+
+def order(measures):
+    return [11, measures]
+
+
+def look():
+    return [12]
+
+
 def joined(calls):
     return [number for call in calls for number in call]
 
@@ -62,6 +86,11 @@ def row_of(people):
 def ask_row(people, calls):
     """The answers to these calls, of a row of these people."""
     return ask(row_of(people) + calls)[1 + len(people):]
+
+
+def seen(people):
+    """What look answers of a row of these people."""
+    return [len(people)] + joined(people)
 
 
 def ask_one(people, call):

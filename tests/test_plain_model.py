@@ -5,7 +5,8 @@ import unittest
 from fractions import Fraction
 from itertools import combinations, permutations
 
-from lines import ask, begin, best, comes, exchange, needs, person, soon
+from lines import (ask, begin, best, come, comes, exchange, leave, look, needs, order, person, row_of, soon, swap,
+                   water)
 
 
 def told(fraction):
@@ -87,15 +88,61 @@ class Model:
             return [-6]
         free = [0] * len(self.row)
         for bucket in range(k):
-            moment = 0
-            for place, one in enumerate(self.row):
-                moment = max(moment, free[place]) + one[3]
-                free[place] = moment
+            moment = self.next_coming(free)
         return [moment]
+
+    def next_coming(self, free):
+        """When the next bucket comes; free tells from when on each may take one."""
+        moment = 0
+        for place, one in enumerate(self.row):
+            moment = max(moment, free[place]) + one[3]
+            free[place] = moment
+        return moment
+
+    def come(self, moment):
+        if moment > 100000:
+            return [-1]
+        count = 0
+        free = [0] * len(self.row)
+        while self.row and self.next_coming(free) <= moment:
+            count += 1
+        return [count]
+
+    def water(self, measures, moment):
+        if measures > 1000 or moment > 100000:
+            return [-1]
+        return told(self.come(moment)[0] * self.carried(self.row, measures))
+
+    def swap(self, number, other):
+        if {number, other} - set(range(len(self.row))):
+            return [-2]
+        row = dict(enumerate(self.row))
+        row[number], row[other] = row[other], row[number]
+        self.row = [row[place] for place in range(len(row))]
+        return [0]
+
+    def leave(self, number):
+        if number not in range(len(self.row)):
+            return [-2]
+        self.row = self.row[:number] + self.row[number + 1:]
+        return [len(self.row)]
+
+    def order(self, measures):
+        answer = self.best(measures)
+        if answer == [-1]:
+            return answer
+        self.row = [self.row[number] for number in answer[2:]]
+        return answer[:2]
+
+    def look(self):
+        return [len(self.row)] + [number for one in self.row for number in one]
 
 
 WRITERS = {"begin": begin, "person": person, "comes": comes, "needs": needs, "best": best, "exchange": exchange,
-           "soon": soon}
+           "soon": soon, "come": come, "water": water, "swap": swap, "leave": leave, "order": order, "look": look}
+
+NAMES = (("person",) * 7 + ("comes", "needs") * 3 + ("best", "exchange", "soon", "come", "water", "swap", "look") * 2
+         + ("leave", "order"))
 
 
 def some_person(source):
@@ -112,8 +159,16 @@ def some_order(source):
     return source.sample(range(count), source.randint(0, count))
 
 
+def some_moment(source):
+    return source.choice((0, 1, 100001, 200000, source.randint(0, 60), source.randint(0, 300), source.randint(0, 3000)))
+
+
+def some_number(source):
+    return source.randrange(10) if source.random() < 0.2 else source.randrange(5)
+
+
 def some_call(source):
-    name = source.choice(("person",) * 5 + ("comes", "needs") * 3 + ("best", "exchange", "soon") * 2)
+    name = source.choice(NAMES)
     measures = source.choice((0, 1, 50, 1000, 1001, 2000, source.randint(0, 300), source.randint(0, 1000)))
     if source.random() < 0.03:
         return "begin", ()
@@ -121,30 +176,60 @@ def some_call(source):
         return name, some_person(source)
     if name in ("comes", "needs"):
         return name, (measures, some_order(source))
+    if name == "come":
+        return name, (some_moment(source),)
+    if name == "water":
+        return name, (measures, some_moment(source))
+    if name == "swap":
+        return name, (some_number(source), some_number(source))
+    if name == "leave":
+        return name, (some_number(source),)
+    if name == "look":
+        return name, ()
     return name, (measures,)
 
 
 class BesideTheModel(unittest.TestCase):
+    def check(self, calls, seed):
+        model = Model()
+        wanted = [model.answer(name, values) for name, values in calls]
+        given = ask([WRITERS[name](*values) for name, values in calls])
+        for call, one, other in zip(calls, given, wanted):
+            self.assertEqual(one, other, (seed, call))
+
     def test_many_lists(self):
-        for seed in range(150):
+        for seed in range(200):
             source = random.Random(seed)
             calls = [some_call(source) for place in range(source.randint(1, 40))]
             if source.random() < 0.9:
                 calls.insert(0, ("begin", ()))
-            model = Model()
-            wanted = [model.answer(name, values) for name, values in calls]
-            given = ask([WRITERS[name](*values) for name, values in calls])
-            for call, one, other in zip(calls, given, wanted):
-                self.assertEqual(one, other, (seed, call))
+            self.check(calls, seed)
 
-    def test_soon_of_every_row_of_a_few_times(self):
+    def test_a_look_behind_each_call(self):
+        for seed in range(200, 300):
+            source = random.Random(seed)
+            calls = [("begin", ())] + [("person", some_person(source)) for place in range(source.randint(0, 7))]
+            for place in range(source.randint(1, 26)):
+                calls = calls + [some_call(source), ("look", ())]
+            self.check(calls, seed)
+
+    def test_moments_of_every_row_of_a_few_times(self):
         for times in permutations((1, 2, 2, 5, 7)):
             for count in range(1, 6):
                 people = [(0, 1, 1, time) for time in times[:count]]
                 model = Model()
                 model.row = people
-                given = ask([begin()] + [person(*one) for one in people] + [soon(k) for k in range(1, 8)])
-                self.assertEqual(given[1 + count:], [model.soon(k) for k in range(1, 8)], people)
+                given = ask(row_of(people) + [soon(k) for k in range(1, 8)] + [come(moment) for moment in range(40)])
+                self.assertEqual(given[1 + count:], [model.soon(k) for k in range(1, 8)]
+                                 + [model.come(moment) for moment in range(40)], people)
+
+    def test_the_last_moments(self):
+        for times in ((1,), (3, 2), (50, 1, 50), (2, 9, 4, 9), (1, 2, 3, 4, 5, 6)):
+            people = [(time, 3, 4, time) for time in times]
+            model = Model()
+            model.row = people
+            given = ask(row_of(people) + [come(99999), come(100000), water(1000, 100000)])
+            self.assertEqual(given[1 + len(people):], [model.come(99999), model.come(100000), model.water(1000, 100000)])
 
 
 if __name__ == "__main__":
